@@ -11,7 +11,7 @@ import (
 	"spinet/page"
 )
 
-// lengths: how many bytes the opcodes of the page 1 have, sixteen a line, as a data sheet tells them (with the postbyte, without what it asks for); what isn't listed has 1. A p is a prefix.
+// lengths: how many bytes the opcodes of the page 1 have, sixteen a line, written by hand (with the postbyte, without what it asks for); what isn't listed has 1. A p is a prefix.
 const lengths = `
 2112212222212222
 pp11113311212122

@@ -10,7 +10,7 @@ import (
 	"spinet/page"
 )
 
-// The opcodes of the three pages, sixteen a line, as a data sheet shows them; a minus sign: none is listed. Page 2 has its lines from 20 on, page 3 from 30 on.
+// The opcodes of the three pages, sixteen a line, laid out as on a data sheet, written by hand; a minus sign: none is listed. Page 2 has its lines from 20 on, page 3 from 30 on.
 const (
 	first = `
 NEG  -    -    COM  LSR  -    ROR  ASR  ASL  ROL  DEC  -    INC  TST  JMP  CLR

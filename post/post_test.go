@@ -7,7 +7,7 @@ import (
 	"spinet/post"
 )
 
-// half is what a lower half stands for, from 128 on: the kind's number, and the cycles that it costs (without and with an indirection), as a data sheet tells them.
+// half is what a lower half stands for, from 128 on: the kind's number, and the cycles that it costs (without and with an indirection), written by hand.
 type half struct{ kind, bytes, idle, extra, through int }
 
 // halves are all sixteen.

@@ -11,7 +11,7 @@ import (
 	"spinet/table"
 )
 
-// The cycles of the opcodes, sixteen a line, as a data sheet tells them (but that SYNC and CWAI count up to where they wait); of the indexed mode without the postbyte's, of PSH and PUL without the registers', of RTI and long branches the least. A minus sign: none is listed. Page 2 has its lines from 20 on, page 3 from 30 on.
+// The cycles of the opcodes, sixteen a line, written by hand (SYNC and CWAI up to where they wait); of the indexed mode without the postbyte's, of PSH and PUL without the registers', of RTI and long branches the least. A minus sign: none is listed. Page 2 has its lines from 20 on, page 3 from 30 on.
 const (
 	first = `
 6  -  -  6  6  -  6  6  6  6  6  -  6  6  3  6
